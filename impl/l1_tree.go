@@ -38,8 +38,7 @@ type Tree struct {
 
 // TreeOk says whether a tree is ok.
 func TreeOk(t Tree) bool {
-	_, ok := innerTree(t)
-	return ok
+	return isOk(t, TreeMaxParts, hasJustItsSort)
 }
 
 // TreeParts counts the parts of a tree, itself being one.
@@ -65,15 +64,59 @@ func TreeRead(text string) (Tree, bool) {
 	if len(text) > TreeMaxWrite {
 		return Tree{}, false
 	}
-	inner, ok := caughtTree(newTreeReader(text).whole)
+	inner, ok := caught(newTreeReader(text).whole)
 	if !ok {
 		return Tree{}, false
 	}
-	return outerTree(inner), true
+	t := outerTree(inner)
+	if !TreeOk(t) {
+		return Tree{}, false
+	}
+	return t, true
 }
 
-// anyTree is a tree inside the program, a type a sort. It is only made of what
-// is ok, so that nothing has to be checked where it is walked.
+// kidded is whatever has kids that are like itself.
+type kidded[T any] interface {
+	kids() []T
+}
+
+func (t Tree) kids() []Tree { return t.Kids }
+
+// walk shows each part ahead of its kids, and ends at the first that is refused.
+func walk[T kidded[T]](part T, level int, accepts func(part T, level int) bool) bool {
+	if !accepts(part, level) {
+		return false
+	}
+	for _, kid := range part.kids() {
+		if !walk(kid, level+1, accepts) {
+			return false
+		}
+	}
+	return true
+}
+
+// isOk counts on the way down, so that what has far too many parts, or is a kid
+// of itself, is left as soon as it is beyond the bounds.
+func isOk[T kidded[T]](top T, maxParts int, accepts func(part T) bool) bool {
+	parts := 0
+	return walk(top, 1, func(part T, level int) bool {
+		parts++
+		return parts <= maxParts && level <= TreeMaxDeep && accepts(part)
+	})
+}
+
+func partsOf[T kidded[T]](top T) int {
+	parts := 0
+	walk(top, 1, func(T, int) bool {
+		parts++
+		return true
+	})
+	return parts
+}
+
+// anyTree is a tree inside the program, a type a sort. Beside the one that is
+// being read it is only made of what is ok, so that nothing has to be checked
+// where it is walked.
 type anyTree interface {
 	kids() []anyTree
 }
@@ -101,14 +144,6 @@ func (t listTree) kids() []anyTree  { return t }
 func (t formTree) kids() []anyTree  { return t.trees }
 func (t maybeTree) kids() []anyTree { return t }
 
-func partsOf(t anyTree) int {
-	parts := 1
-	for _, kid := range t.kids() {
-		parts += partsOf(kid)
-	}
-	return parts
-}
-
 func appendTree(out []byte, t anyTree) []byte {
 	switch x := t.(type) {
 	case numTree:
@@ -122,7 +157,7 @@ func appendTree(out []byte, t anyTree) []byte {
 	case listTree:
 		return appendList(out, x)
 	case formTree:
-		return appendForm(out, x)
+		return appendForm(out, x.names, x.trees, appendTree)
 	case maybeTree:
 		return appendMaybe(out, x)
 	}
@@ -147,15 +182,16 @@ func appendList(out []byte, t listTree) []byte {
 	return append(out, ']')
 }
 
-func appendForm(out []byte, t formTree) []byte {
+// appendForm writes a form of trees, or of schemas.
+func appendForm[T any](out []byte, names []string, kids []T, appendKid func([]byte, T) []byte) []byte {
 	out = append(out, '{')
-	for i, kid := range t.trees {
+	for i, kid := range kids {
 		if i > 0 {
 			out = append(out, ',')
 		}
-		out = append(out, t.names[i]...)
+		out = append(out, names[i]...)
 		out = append(out, ':')
-		out = appendTree(out, kid)
+		out = appendKid(out, kid)
 	}
 	return append(out, '}')
 }
@@ -206,59 +242,14 @@ func copyNames(names []string) []string {
 	return out
 }
 
-// treeFault is the panic with which a tree, or a text of one, is refused.
-type treeFault struct{}
-
-func demandTree(holds bool) {
-	if !holds {
-		panic(treeFault{})
-	}
-}
-
-// caughtTree ends a refusal. Any other panic is a mistake of the program, which
-// must not pass for a refusal.
-func caughtTree(build func() anyTree) (t anyTree, ok bool) {
-	defer func() {
-		switch why := recover().(type) {
-		case nil, treeFault:
-		default:
-			panic(why)
-		}
-	}()
-	return build(), true
-}
-
-// treeBounds counts on the way down, so that a tree with far too many parts, or
-// one that is a kid of itself, is left as soon as it is beyond them.
-type treeBounds struct {
-	parts  int
-	levels int
-}
-
-func (b *treeBounds) enter() {
-	b.parts++
-	b.levels++
-	demandTree(b.parts <= TreeMaxParts && b.levels <= TreeMaxDeep)
-}
-
-func (b *treeBounds) leave() {
-	b.levels--
-}
-
 func innerTree(t Tree) (anyTree, bool) {
-	return caughtTree(func() anyTree {
-		return new(treeBounds).take(t)
-	})
+	if !TreeOk(t) {
+		return nil, false
+	}
+	return madeTree(t), true
 }
 
-func (b *treeBounds) take(t Tree) anyTree {
-	b.enter()
-	demandTree(hasJustItsSort(t))
-	var kids []anyTree
-	for _, kid := range t.Kids {
-		kids = append(kids, b.take(kid))
-	}
-	b.leave()
+func madeTree(t Tree) anyTree {
 	switch t.Sort {
 	case TreeNum:
 		return numTree(t.Num)
@@ -267,13 +258,19 @@ func (b *treeBounds) take(t Tree) anyTree {
 	case TreeFlag:
 		return flagTree(t.Num == 1)
 	case TreeList:
-		return listTree(kids)
+		return listTree(madeTrees(t.Kids))
 	case TreeForm:
-		return formTree{names: t.Names, trees: kids}
-	case TreeMaybe:
-		return maybeTree(kids)
+		return formTree{names: t.Names, trees: madeTrees(t.Kids)}
 	}
-	panic(treeFault{})
+	return maybeTree(madeTrees(t.Kids))
+}
+
+func madeTrees(trees []Tree) []anyTree {
+	var made []anyTree
+	for _, t := range trees {
+		made = append(made, madeTree(t))
+	}
+	return made
 }
 
 // hasJustItsSort leaves the kids themselves to the one who walks them.
@@ -348,17 +345,82 @@ func readNum(word string) (int, bool) {
 	return num, true
 }
 
+// textFault is the panic with which a text is refused.
+type textFault struct{}
+
+func demand(holds bool) {
+	if !holds {
+		panic(textFault{})
+	}
+}
+
+// caught ends a refusal. Any other panic is a mistake of the program, which
+// must not pass for a refusal.
+func caught[T any](read func() T) (made T, ok bool) {
+	defer func() {
+		switch why := recover().(type) {
+		case nil, textFault:
+		default:
+			panic(why)
+		}
+	}()
+	return read(), true
+}
+
+// textScan goes through a text from its first byte to its last.
+type textScan struct {
+	text string
+	at   int
+}
+
+// until leaves the byte at which it ends to be read.
+func (s *textScan) until(end byte) string {
+	size := strings.IndexByte(s.text[s.at:], end)
+	demand(size >= 0)
+	start := s.at
+	s.at += size
+	return s.text[start:s.at]
+}
+
+func (s *textScan) skip(word string) bool {
+	if !strings.HasPrefix(s.text[s.at:], word) {
+		return false
+	}
+	s.at += len(word)
+	return true
+}
+
+func (s *textScan) want(word string) {
+	demand(s.skip(word))
+}
+
+func (s *textScan) wantEnd() {
+	demand(s.at == len(s.text))
+}
+
+// readForm reads a form of trees, or of schemas.
+func readForm[T any](s *textScan, readKid func() T) (names []string, kids []T) {
+	s.want("{")
+	for !s.skip("}") {
+		if len(names) > 0 {
+			s.want(",")
+		}
+		names = append(names, s.until(':'))
+		s.want(":")
+		kids = append(kids, readKid())
+	}
+	return names, kids
+}
+
 // treeReader reads a tree from a text; the first byte of a tree tells which
-// method reads it.
+// method reads it. What it reads has the right marks, but need not be ok.
 type treeReader struct {
-	text    string
-	at      int
-	bounds  treeBounds
+	textScan
 	byFirst [256]func() anyTree
 }
 
 func newTreeReader(text string) *treeReader {
-	r := &treeReader{text: text}
+	r := &treeReader{textScan: textScan{text: text}}
 	num, flag, maybe := r.num, r.flag, r.maybe
 	for digit := '0'; digit <= '9'; digit++ {
 		r.byFirst[digit] = num
@@ -374,18 +436,15 @@ func newTreeReader(text string) *treeReader {
 
 func (r *treeReader) whole() anyTree {
 	t := r.tree()
-	demandTree(r.at == len(r.text))
+	r.wantEnd()
 	return t
 }
 
 func (r *treeReader) tree() anyTree {
-	r.bounds.enter()
-	demandTree(r.at < len(r.text))
+	demand(r.at < len(r.text))
 	read := r.byFirst[r.text[r.at]]
-	demandTree(read != nil)
-	t := read()
-	r.bounds.leave()
-	return t
+	demand(read != nil)
+	return read()
 }
 
 func (r *treeReader) num() anyTree {
@@ -395,14 +454,13 @@ func (r *treeReader) num() anyTree {
 		r.at++
 	}
 	num, ok := readNum(r.text[start:r.at])
-	demandTree(ok)
+	demand(ok)
 	return numTree(num)
 }
 
 func (r *treeReader) quoted() anyTree {
 	r.want("\"")
 	text := r.until('"')
-	demandTree(isTreeText(text))
 	r.want("\"")
 	return textTree(text)
 }
@@ -424,23 +482,12 @@ func (r *treeReader) list() anyTree {
 		}
 		list = append(list, r.tree())
 	}
-	demandTree(len(list) <= TreeMaxList)
 	return list
 }
 
 func (r *treeReader) form() anyTree {
-	r.want("{")
-	var form formTree
-	for !r.skip("}") {
-		if len(form.names) > 0 {
-			r.want(",")
-		}
-		form.names = append(form.names, r.until(':'))
-		r.want(":")
-		form.trees = append(form.trees, r.tree())
-	}
-	demandTree(areFormNames(form.names))
-	return form
+	names, trees := readForm(&r.textScan, r.tree)
+	return formTree{names: names, trees: trees}
 }
 
 func (r *treeReader) maybe() anyTree {
@@ -449,25 +496,4 @@ func (r *treeReader) maybe() anyTree {
 	}
 	r.want("?")
 	return maybeTree{r.tree()}
-}
-
-// until leaves the byte at which it ends to be read.
-func (r *treeReader) until(end byte) string {
-	size := strings.IndexByte(r.text[r.at:], end)
-	demandTree(size >= 0)
-	start := r.at
-	r.at += size
-	return r.text[start:r.at]
-}
-
-func (r *treeReader) skip(word string) bool {
-	if !strings.HasPrefix(r.text[r.at:], word) {
-		return false
-	}
-	r.at += len(word)
-	return true
-}
-
-func (r *treeReader) want(word string) {
-	demandTree(r.skip(word))
 }

@@ -1,6 +1,7 @@
 package tests
 
 import (
+	"iter"
 	"slices"
 	"strings"
 	"testing"
@@ -115,16 +116,25 @@ func allStrings(bytes string, size int) []string {
 // Promise 2, of texts that are one byte away from a tree's.
 func TestTreeOneByteAway(t *testing.T) {
 	for _, c := range append(ordinaryTrees(), edgeTrees()...) {
-		for at := range len(c.text) + 1 {
-			ahead, behind := c.text[:at], c.text[at:]
+		for s := range oneByteAway(c.text) {
+			readsAsItself(t, s)
+		}
+	}
+}
+
+// oneByteAway tells the texts with a byte more, a byte less, or another byte.
+func oneByteAway(s string) iter.Seq[string] {
+	return func(yield func(string) bool) {
+		for at := range len(s) + 1 {
+			ahead, behind := s[:at], s[at:]
 			for b := range 256 {
-				readsAsItself(t, ahead+string([]byte{byte(b)})+behind)
-				if behind != "" {
-					readsAsItself(t, ahead+string([]byte{byte(b)})+behind[1:])
+				more := ahead + string([]byte{byte(b)})
+				if !yield(more+behind) || behind != "" && !yield(more+behind[1:]) {
+					return
 				}
 			}
-			if behind != "" {
-				readsAsItself(t, ahead+behind[1:])
+			if behind != "" && !yield(ahead+behind[1:]) {
+				return
 			}
 		}
 	}
