@@ -44,7 +44,7 @@ func (g grower) treeOf(k impl.Kind) impl.Tree {
 			x.Kids = append(x.Kids, g.treeOf(kid))
 		}
 	case impl.TreeList:
-		for range g.Intn(4) {
+		for range g.listSize() {
 			x.Kids = append(x.Kids, g.treeOf(k.Kids[0]))
 		}
 	case impl.TreeMaybe:
@@ -53,6 +53,14 @@ func (g grower) treeOf(k impl.Kind) impl.Tree {
 		}
 	}
 	return x
+}
+
+// listSize is a small one, as a rule, so that most trees are ok.
+func (g grower) listSize() int {
+	if g.Intn(4) == 0 {
+		return g.Intn(21)
+	}
+	return g.Intn(4)
 }
 
 // spoilt is the tree with one part, at random, made another one.
